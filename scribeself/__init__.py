@@ -1,0 +1,1 @@
+"""Scribeself: a system that makes compilers from descriptions, also itself."""

@@ -1,0 +1,52 @@
+"""The names and arguments of the interface, and where they are defined."""
+
+import importlib
+import inspect
+import unittest
+
+FUNCTIONS = {
+    "classes": ["all_characters()", "canon(text)", "is_class(text)", "union(first, second)", "minus(first, second)",
+                "inverse(chars)", "split(classes)"],
+    "grammars": ["is_name(text)", "check(grammar)", "lefts(grammar)", "nullable(grammar)", "productive(grammar)",
+                 "reached(grammar)", "cyclic(grammar)", "firsts(grammar)"],
+    "forests": ["check_filters(grammar, filters)", "forest(grammar, filters, text)", "count(grammar, filters, text)",
+                "tree(grammar, filters, text, number)", "parse(grammar, filters, text)"],
+    "trees": ["text_of(tree)", "fits(grammar, tree)", "nodes(tree)", "subtree(tree, path)",
+              "replaced(tree, path, other)", "deepest(tree, start, end)"],
+    "edits": ["applied(text, edit)", "inverse_of(text, edit)", "moved(edit, position, right)",
+              "difference(first, second)", "joined(text, first, second)"],
+    "reuse": ["read(grammar, filters, text)", "read_again(reading, edit)", "kept(old, new, edit)"],
+    "mends": ["changes(first, second)", "change_count(first, second)", "changed(text, edits)",
+              "distance(grammar, text)", "mend(grammar, text)", "paper(grammar, text)",
+              "paper_right(grammar, text, rows)", "changes_fit(text, edits)",
+              "accepted(grammar, text, edits, rows)"],
+    "values": ["wrapped(n)", "call(name, args)", "references(expression)", "reads_texts(expression)",
+               "value_of(expression, known, own, kids)"],
+    "equations": ["check(grammar, attributes)"],
+}
+
+METHODS = {("reuse", "Reading"): ["tree(self, number)"]}
+
+
+class InterfaceTest(unittest.TestCase):
+    def test_functions(self):
+        for file, calls in FUNCTIONS.items():
+            module = importlib.import_module("scribeself." + file)
+            for call in calls:
+                name = call.split("(")[0]
+                function = vars(module)[name]
+                self.assertEqual(name + str(inspect.signature(function)), call, file)
+                self.assertEqual(function.__module__, "scribeself." + file)
+
+    def test_classes(self):
+        for (file, name), calls in METHODS.items():
+            module = importlib.import_module("scribeself." + file)
+            made = vars(module)[name]
+            self.assertEqual(made.__module__, "scribeself." + file)
+            for call in calls:
+                method = call.split("(")[0]
+                self.assertEqual(method + str(inspect.signature(vars(made)[method])), call)
+
+
+if __name__ == "__main__":
+    unittest.main()
