@@ -131,6 +131,7 @@ def undercuts(rule, table, size):
             sums = sums_behind(sums, table[symbol])
         if not symbols:
             sums = {end: end - start for end in range(start, size + 1)}
+        # Where there is no row, every sum undercuts the paper.
         for end in sums:
             if sums[end] < table[("nt", left)][end].get(start, sums[end] + 1):
                 return True

@@ -10,23 +10,7 @@ from scribeself.errors import GrammarError, TreeError
 from scribeself.forests import check_filters, count, forest, parse, tree
 from scribeself.grammars import check
 from scribeself.trees import fits, text_of
-
-
-def rule(left, label, *symbols):
-    return ("rule", left, label, list(symbols))
-
-
-def nt(name):
-    return ("nt", name)
-
-
-def lit(text):
-    return ("lit", text)
-
-
-def node(index, *kids):
-    return ("node", index, list(kids))
-
+from shapes import lit, node, nt, rule
 
 SUM = ("grammar", "e", [rule("e", "sum", nt("e"), lit("+"), nt("e")), rule("e", "one", ("class", "1"))])
 TWICE = ("grammar", "s", [rule("s", "two", nt("s"), nt("s")), rule("s", "one", lit("a"))])

@@ -7,18 +7,7 @@ import unittest
 from oracles import some_grammar
 from scribeself.errors import GrammarError
 from scribeself.grammars import check, cyclic, firsts, is_name, lefts, nullable, productive, reached
-
-
-def rule(left, label, *symbols):
-    return ("rule", left, label, list(symbols))
-
-
-def nt(name):
-    return ("nt", name)
-
-
-def lit(text):
-    return ("lit", text)
+from shapes import lit, nt, rule
 
 
 class NameTest(unittest.TestCase):

@@ -11,19 +11,7 @@ from scribeself.forests import count
 from scribeself.grammars import lefts, productive
 from scribeself.mends import (accepted, change_count, changed, changes, changes_fit, distance, mend, paper,
                               paper_right)
-
-
-def rule(left, label, *symbols):
-    return ("rule", left, label, list(symbols))
-
-
-def nt(name):
-    return ("nt", name)
-
-
-def lit(text):
-    return ("lit", text)
-
+from shapes import lit, nt, rule
 
 BRACKET = ("grammar", "s", [rule("s", "none"), rule("s", "some", lit("("), nt("s"), lit(")"), nt("s"))])
 NO_TEXT = ("grammar", "s", [rule("s", "s0", lit("x"), nt("s")), rule("t", "t0", lit("x"))])
@@ -182,6 +170,11 @@ class MendTest(unittest.TestCase):
         grammar = ("grammar", "s", [rule("s", "s0", lit("abc")), rule("s", "s1", lit("zb")), rule("s", "s2", lit("a"))])
         self.assertEqual(mend(grammar, "ab")[1], "a")
         self.assertEqual(mend(grammar, "xb")[1], "zb")
+
+    def test_the_shortest_may_have_the_highest_tree(self):
+        rules = [rule("s", "s0", lit("xx")), rule("s", "s1", nt("a"), nt("e")), rule("a", "a0", nt("e"), nt("b")),
+                 rule("b", "b0", nt("c")), rule("c", "c0", nt("e"), lit("y"), nt("e")), rule("e", "e0")]
+        self.assertEqual(mend(("grammar", "s", rules), "zz")[1], "y")
 
     def test_then_the_least(self):
         grammar = ("grammar", "s", [rule("s", "s0", lit("b"), ("class", "yz")), rule("s", "s1", lit("a"), ("class", "yz"))])

@@ -10,11 +10,7 @@ from scribeself.errors import EditError, TreeError
 from scribeself.forests import count, tree
 from scribeself.reuse import kept, read, read_again
 from scribeself.trees import nodes, subtree
-
-
-def node(index, *kids):
-    return ("node", index, list(kids))
-
+from shapes import node
 
 RULES = [("rule", "s", "all", [("nt", "w"), ("nt", "r")]), ("rule", "r", "more", [("lit", " "), ("nt", "w"), ("nt", "r")]),
          ("rule", "r", "none", []), ("rule", "w", "word", [("run", "abc")]), ("rule", "w", "key", [("lit", "abc")])]

@@ -8,11 +8,7 @@ from oracles import as_tree, all_trees, some_grammar, some_text
 from scribeself.errors import EditError
 from scribeself.forests import parse
 from scribeself.trees import deepest, fits, nodes, replaced, subtree, text_of
-
-
-def node(index, *kids):
-    return ("node", index, list(kids))
-
+from shapes import node
 
 ONE = node(1, "1")
 SUM = node(0, ONE, "+", ONE)
