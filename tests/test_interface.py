@@ -23,9 +23,37 @@ FUNCTIONS = {
     "values": ["wrapped(n)", "call(name, args)", "references(expression)", "reads_texts(expression)",
                "value_of(expression, known, own, kids)"],
     "equations": ["check(grammar, attributes)"],
+    "solving": ["solve(grammar, attributes, tree)"],
+    "ordering": ["orders(grammar, attributes)", "check_order(grammar, attributes)"],
+    "records": ["recorded(grammar, attributes, tree)", "again(record, path, other)"],
+    "scopes": ["check_graph(graph)", "check_policy(policy)", "visible(graph, policy, reference)",
+               "meaning(graph, policy, reference)", "resolve(graph, policy)",
+               "path_right(graph, policy, reference, path, declaration)"],
+    "renaming": ["meanings(graph, policy)", "renamed(graph, declaration, references, new)",
+                 "rename(graph, policy, declaration, new)", "unused(graph, wanted)"],
+    "rewriting": ["rules_fit(rules)", "step(rules, value)", "normal(rules, value)"],
+    "meaning": ["wrap(number)", "operate(name, a, b)", "is_expression(value)", "is_statement(value)",
+                "evaluate(expression, store)", "begin(statement)", "step(configuration)", "run(statement, fuel)",
+                "observe(statement, fuel)"],
+    "machines": ["is_machine(value)", "check_list(instructions, registers)", "reads(instruction)",
+                 "writes(instruction)", "slot_read(instruction)", "slot_written(instruction)", "target(instruction)",
+                 "latency(machine, instruction)", "format_instruction(instruction)", "format_list(instructions)",
+                 "parse_instruction(line)", "parse_list(text)", "play(instructions, fuel)",
+                 "observe_list(instructions, fuel)"],
+    "covers": ["cover(patterns, expression)", "cover_cost(patterns, expression, told)",
+               "compiled(patterns, statement)"],
+    "patterns": ["check_pattern(pattern)"],
+    "flow": ["successors(instructions)", "predecessors(instructions)", "entries(instructions)",
+             "reachable(instructions)", "mentioned(instructions)", "live(instructions)",
+             "live_path(instructions, at, number)", "reaching(instructions)",
+             "reaching_path(instructions, at, number, index)", "drop_dead(instructions)"],
 }
 
-METHODS = {("reuse", "Reading"): ["tree(self, number)"]}
+METHODS = {
+    ("reuse", "Reading"): ["tree(self, number)"],
+    ("records", "Record"): [],
+    ("covers", "Coder"): ["__init__(self, patterns)", "expression(self, expression, told)"],
+}
 
 
 class InterfaceTest(unittest.TestCase):

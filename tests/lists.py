@@ -1,0 +1,67 @@
+"""Lists of instructions by chance, and slow but plain ways to find what they do."""
+
+from middle import EDGES, plain_value
+
+OPERATIONS = ["add", "sub", "mul", "less", "same"]
+
+
+def some_list(chance, many, registers=3, labels=(0, 7, "in", "out")):
+    """A valid list; some of the names to which it jumps are not placed."""
+    placed = [label for label in labels if chance.random() < 0.8]
+    names = [label for label in labels if label in placed or isinstance(label, str)]
+    found = [("label", label) for label in placed]
+    while len(found) < many:
+        d, s, t = [chance.randrange(registers) for _ in range(3)]
+        goal = [("jump", chance.choice(names)), ("jz", s, chance.choice(names))] if names else [("halt",)]
+        found.append(chance.choice([("li", d, chance.choice(EDGES)), ("mov", d, s), ("op", chance.choice(OPERATIONS), d, s, t), ("ld", d, chance.randrange(4)),
+                                    ("st", s, chance.randrange(4)), ("show", s), ("halt",), goal[-1], chance.choice(goal)]))
+    chance.shuffle(found)
+    return found
+
+
+class PlainPlay:
+    """A run of a list, told by the words of the point: how it ends, what it shows, its slots, its fuel, and where it ends."""
+
+    def __init__(self, instructions, fuel):
+        self.shown, self.slots, self.used, self.registers = [], [0] * 64, 0, {}
+        self.at = 0
+        self.ending = None
+        while self.ending is None:
+            self.one(instructions + [("halt",)], fuel)
+
+    def get(self, register):
+        return self.registers.get(register, 0)
+
+    def one(self, instructions, fuel):
+        instruction = instructions[self.at]
+        kind, parts = instruction[0], instruction[1:]
+        if kind == "label":
+            self.at += 1
+        elif self.used == fuel:
+            self.ending = "fuel"
+        else:
+            self.used += 1
+            if kind == "halt":
+                self.ending = "halt"
+            elif kind == "jump" or (kind == "jz" and self.get(parts[0]) == 0):
+                if ("label", parts[-1]) in instructions:
+                    self.at = instructions.index(("label", parts[-1]))
+                else:
+                    self.ending = "trap"
+            else:
+                self.at += 1
+                self.do(kind, parts)
+
+    def do(self, kind, parts):
+        if kind == "li":
+            self.registers[parts[0]] = parts[1]
+        elif kind == "mov":
+            self.registers[parts[0]] = self.get(parts[1])
+        elif kind == "op":
+            self.registers[parts[1]] = plain_value((parts[0], ("var", 0), ("var", 1)), [self.get(parts[2]), self.get(parts[3])])
+        elif kind == "ld":
+            self.registers[parts[0]] = self.slots[parts[1]]
+        elif kind == "st":
+            self.slots[parts[1]] = self.get(parts[0])
+        elif kind == "show":
+            self.shown.append(self.get(parts[0]))
