@@ -52,7 +52,8 @@ class CoverTest(unittest.TestCase):
             self.none(patterns, other)
 
     def test_trees_that_are_no_terms(self):
-        self.none([(0, A, [])], SEVEN)
+        for tree in [A, 7, "num", hole("n")]:
+            self.none([(0, tree, [])], SEVEN)
         self.assertEqual(cover([(0, A, []), TWO], SEVEN), (1, (1, [])))
 
     def test_least_cost(self):

@@ -33,6 +33,7 @@ TABLE = [
     (("label", 0), "L0:", [], [], None, None, None),
     (("label", "l0"), "l0:", [], [], None, None, None),
     (("halt",), "halt", [], [], None, None, None),
+    (("op", "add", 8, 8, 1), "add r8 r8 r1", [1, 8], [8], None, None, None),
 ]
 
 
@@ -156,14 +157,14 @@ class LinesTest(unittest.TestCase):
             self.wrong("li r0 " + word)
 
     def test_other_words(self):
-        for word in ["r", "r00", "r01", "r-1", "r+1", "r10000", "R0", "0", "r0 ", "r1r", "rr1", "r" + "1" * 4400, "r1_0", "[0]", "L0", "x", ""]:
+        for word in ["r", "r00", "r01", "r-1", "r+1", "r10000", "R0", "0", "r0 ", "r1r", "rr1", "r" + "1" * 4400, "r1_0", "rx", "r1x", "ra", "[0]", "L0", "x", ""]:
             self.wrong("show " + word)
             self.wrong("jz " + word + " a")
             self.wrong("add r0 r0 " + word)
-        for word in ["[]", "[64]", "[-1]", "[00]", "[01]", "[+1]", "0", "[0", "0]", "[[0]]", "[ 0]", "(0)", "[0]]", "r0", "[a]", "", "[", "]"]:
+        for word in ["[]", "[64]", "[-1]", "[00]", "[01]", "[+1]", "0", "[0", "0]", "[[0]]", "[ 0]", "(0)", "[0]]", "r0", "[a]", "[x]", "[1x]", "", "[", "]"]:
             self.wrong("ld r0 " + word)
             self.wrong("st r0 " + word)
-        for word in ["L", "L00", "L05", "L-1", "L+1", "L1048576", "l 5", "5", "LL5", "L5L", "A", "aB", "a_", LONG + "x", "a:", "[a]", "", "La"]:
+        for word in ["L", "L00", "L05", "L-1", "L+1", "L1048576", "l 5", "5", "LL5", "L5L", "A", "aB", "a_", LONG + "x", "a:", "[a]", "", "La", "Lx", "L1x"]:
             self.wrong("jump " + word)
             self.wrong("jz r0 " + word)
             self.wrong(word + ":")

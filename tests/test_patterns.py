@@ -81,7 +81,7 @@ class PatternsTest(unittest.TestCase):
 
     def test_the_shape_of_the_tree(self):
         fine = li("out", 0)
-        for tree in [term("num"), num("x"), num(num(1)), term("num", 1, 2), term("num", N, N), term("var"), var("0"), var(16), var(-1), var(var(1)),
+        for tree in [term("zero"), term(""), term("num"), num("x"), num(num(1)), term("num", 1, 2), term("num", N, N), term("var"), var("0"), var(16), var(-1), var(var(1)),
                      term("var", 1, 2), term("add"), term("add", A), term("add", A, B, B), term("add", 1, A), term("add", A, 1), term("add", "a", A),
                      term("add", A, ""), term("div", A, B), term("", A, B), term("set", A, B), term("add", A, term("neg", B)), term("mul", num(1), var(16)),
                      term("less", term("add", A), B), term("hole", A, B), term("term", A, B), term("Add", A, B)]:

@@ -186,6 +186,23 @@ class RecordsTest(unittest.TestCase):
         self.assertEqual(new.known, solve(GRAMMAR, attributes, new.tree))
         self.assertEqual(len({tuple(new.known[(path, name)] for name in "abc") for path, _, _, _ in nodes(new.tree)}), 1)
 
+    def test_a_kept_group_has_the_values_of_a_fresh_solve_in_any_case(self):
+        # Two attributes that give less for more: the one that gets its value first decides. What they need is the same.
+        rules = [rule("s", "top", nt("n")), rule("n", "wrap", lit("("), nt("m")), rule("m", "told", lit("x")), rule("m", "fixed", lit("y"))]
+        below = [("n", "a", "most"), ("n", "b", "most"), ("m", "up", "once")]
+        for first, second in ["ab", "ba"]:
+            equations = [("eq", 0, kid(0, "in"), ("val", 1)), ("eq", 1, kid(1, "in"), own("in")),
+                         ("eq", 1, own(first), ("if", own(second), own(first), of("add", own("in"), ("val", 4)))),
+                         ("eq", 1, own(second), ("if", own(first), own(second), of("add", kid(1, "up"), ("val", 2)))),
+                         ("eq", 2, own("up"), own("in")), ("eq", 3, own("up"), ("val", 1))]
+            grammar, attributes = ("grammar", "s", rules), ("attributes", below, [("n", "in", "once"), ("m", "in", "once")], equations)
+            check(grammar, attributes)
+            trees = [node(0, node(1, "(", node(2, "x"))), node(0, node(1, "(", node(3, "y")))]
+            for old, new in [trees, trees[::-1]]:
+                record = again(recorded(grammar, attributes, old), (0, 1), new[2][0][2][1])
+                self.assertEqual(sorted(record.computed), [((0, 1), "in"), ((0, 1), "up")])
+                self.assertEqual(record.known, solve(grammar, attributes, new))
+
     def test_arguments_stay(self):
         tree, other = pair(digit(1), digit(2)), pair(digit(5), digit(6))
         given = copy.deepcopy((GRAMMAR, ATTRIBUTES, tree, other))

@@ -162,15 +162,25 @@ class MeaningTest(unittest.TestCase):
         self.assertEqual(visible(graph, ("policy", 0, [0], moves, [("in", "up"), ("use", "in")]), 0), [((2,), 2)])
         self.assertEqual(visible(graph, ("policy", 0, [0], moves, [("in", "up")]), 0), [((1,), 1), ((2,), 2)])
 
-    def test_a_path_to_a_declaration_that_must_go_round(self):
-        # From the second scope on, the shortest way to the final state comes back to it.
-        edges = [(0, "in", 1), (1, "use", 2), (2, "use", 1), (1, "up", 3), (2, "up", 3), (3, "use", 4), (0, "up", 5)]
-        moves = [(0, "in", 1), (0, "up", 9), (1, "use", 2), (2, "use", 3), (2, "up", 4), (4, "use", 9), (3, "up", 9), (1, "up", 6)]
-        graph = ("graph", 6, edges, [(4, "x"), (5, "x"), (3, "z"), (5, "z")], [(0, "x"), (0, "z")])
+    def test_a_shortest_way_that_meets_a_scope_twice(self):
+        # From scope 1 the steps lead to the declaration of x in scope 4 only by scope 2, then 3, then 2 again.
+        edges = [(0, "in", 1), (0, "up", 5), (1, "use", 2), (2, "use", 3), (3, "use", 2), (2, "up", 4)]
+        moves = [(0, "in", 1), (0, "up", 9), (1, "use", 2), (2, "use", 3), (3, "use", 4), (4, "up", 9), (4, "use", 5), (5, "up", 9)]
         policy = ("policy", 0, [9], moves, [("in", "up")])
-        for reference in range(2):
-            self.assertEqual(visible(graph, policy, reference), plain_visible(graph, policy, reference))
-        self.assertEqual([visible(graph, policy, 0), visible(graph, policy, 1)], [[((0, 1, 4, 5), 0)], [((6,), 3)]])
+        graph = ("graph", 10, edges, [(4, "x"), (5, "x")], [(0, "x")])
+        self.assertEqual(visible(graph, policy, 0), [((1,), 1)])
+        self.assertIs(path_right(graph, policy, 0, (1,), 1), True)
+        self.assertIs(path_right(graph, policy, 0, (0, 2, 3, 4, 5), 0), False)
+        # With a longer way that meets no scope twice, the path by "in" hides the other one.
+        more = edges + [(1, "use", 6), (6, "use", 7), (7, "use", 8), (8, "use", 9), (9, "up", 4)]
+        graph = ("graph", 10, more, [(4, "x"), (5, "x")], [(0, "x")])
+        self.assertEqual(visible(graph, policy, 0), plain_visible(graph, policy, 0))
+        self.assertEqual(visible(graph, policy, 0), [((0, 6, 7, 8, 9, 10), 0)])
+        self.assertIs(path_right(graph, policy, 0, (1,), 1), False)
+        # The same with a way back to scope 2 from the way round.
+        graph = ("graph", 10, more[:6] + [(3, "use", 6), (6, "use", 9), (9, "up", 4)], [(4, "x"), (5, "x")], [(0, "x")])
+        self.assertEqual(visible(graph, policy, 0), plain_visible(graph, policy, 0))
+        self.assertEqual(visible(graph, policy, 0), [((0, 2, 3, 6, 7, 8), 0)])
 
     def test_graphs_by_chance(self):
         chance = random.Random(17)

@@ -116,6 +116,12 @@ class SolveTest(unittest.TestCase):
                          {"a": 57, "b": 50})
         self.assertEqual(solved(a=("most", ("if", of("less", own("a"), ("val", 3)), of("add", own("a"), ("val", 1)), own("a")))), {"a": 3})
 
+    def test_rounds_go_on_until_none_changes(self):
+        # One of the two changes in the first rounds only, the other one only later, whatever their order is.
+        for one, two in ["ab", "ba"]:
+            early = ("most", ("if", of("less", own(one), ("val", 9)), of("add", own(one), of("add", ("val", 1), of("mul", own(two), ("val", 0)))), own(one)))
+            self.assertEqual(solved(**{one: early, two: ("most", of("less", ("val", 8), own(one)))}), {one: 9, two: 1})
+
     def test_alone(self):
         self.assertEqual(solved(a=("most", ("val", 7)), b=("most", ("val", 1000)), c=("most", ("val", 1001)), d=("most", ("val", 0))),
                          {"a": 7, "b": 1000, "c": 1000, "d": 0})
