@@ -92,7 +92,7 @@ class Instances:
     def in_order(self, group, done):
         """A group from its least instance on, as far as possible with those that are needed first.
 
-        So the order depends on the group alone: the same group, kept when others change, would get the same values anew.
+        So the order depends on the group alone: the same group, kept when others change, would get its values again.
         """
         if len(group) == 1:
             return group
