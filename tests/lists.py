@@ -1,6 +1,9 @@
 """Lists of instructions by chance, and slow but plain ways to find what they do."""
 
+import copy
+
 from middle import EDGES, plain_value
+from scribeself.machines import reads, writes
 
 OPERATIONS = ["add", "sub", "mul", "less", "same"]
 
@@ -16,6 +19,16 @@ def some_list(chance, many, registers=3, labels=(0, 7, "in", "out")):
         found.append(chance.choice([("li", d, chance.choice(EDGES)), ("mov", d, s), ("op", chance.choice(OPERATIONS), d, s, t), ("ld", d, chance.randrange(4)),
                                     ("st", s, chance.randrange(4)), ("show", s), ("halt",), goal[-1], chance.choice(goal)]))
     chance.shuffle(found)
+    return found
+
+
+def some_straight(chance, many, registers):
+    """Straight instructions only."""
+    found = []
+    for _ in range(many):
+        d, s, t = [chance.randrange(registers) for _ in range(3)]
+        found.append(chance.choice([("li", d, chance.choice(EDGES)), ("mov", d, s), ("op", chance.choice(OPERATIONS), d, s, t), ("op", "mul", d, s, t),
+                                    ("ld", d, chance.randrange(4)), ("st", s, chance.randrange(4)), ("show", s)]))
     return found
 
 
@@ -65,3 +78,30 @@ class PlainPlay:
             self.slots[parts[1]] = self.get(parts[0])
         elif kind == "show":
             self.shown.append(self.get(parts[0]))
+
+
+def plain_successors(instructions):
+    end = len(instructions)
+    found = []
+    for at, instruction in enumerate(instructions):
+        goal = ("label", instruction[-1])
+        goal = instructions.index(goal) if goal in instructions else end
+        found.append({"halt": {end}, "jump": {goal}, "jz": {goal, at + 1}}.get(instruction[0], {at + 1}))
+    return found + [set()]
+
+
+def plain_entries(instructions):
+    return {0} | {at for at, part in enumerate(instructions) if part[0] == "label" and isinstance(part[1], str)}
+
+
+def plain_live(instructions):
+    """The live registers by equations that are filled in until nothing changes."""
+    after = plain_successors(instructions)
+    found = [set() for _ in after]
+    while True:
+        before = copy.deepcopy(found)
+        for at, instruction in reversed(list(enumerate(instructions))):
+            behind = {number for other in after[at] for number in found[other]}
+            found[at] = (behind - set(writes(instruction))) | set(reads(instruction))
+        if found == before:
+            return found

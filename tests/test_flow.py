@@ -5,38 +5,11 @@ import random
 import time
 import unittest
 
-from lists import PlainPlay, some_list
+from lists import PlainPlay, plain_entries, plain_live, plain_successors, some_list
 from scribeself.flow import (drop_dead, entries, live, live_path, mentioned, predecessors, reachable, reaching, reaching_path, successors)
 from scribeself.machines import reads, writes
 
 EXAMPLE = [("li", 0, 2), ("label", 5), ("mov", 1, 0), ("jz", 0, 6), ("jump", 5), ("label", 6), ("show", 0)]
-
-
-def plain_successors(instructions):
-    end = len(instructions)
-    found = []
-    for at, instruction in enumerate(instructions):
-        goal = ("label", instruction[-1])
-        goal = instructions.index(goal) if goal in instructions else end
-        found.append({"halt": {end}, "jump": {goal}, "jz": {goal, at + 1}}.get(instruction[0], {at + 1}))
-    return found + [set()]
-
-
-def plain_entries(instructions):
-    return {0} | {at for at, part in enumerate(instructions) if part[0] == "label" and isinstance(part[1], str)}
-
-
-def plain_live(instructions):
-    """The live registers by equations that are filled in until nothing changes."""
-    after = plain_successors(instructions)
-    found = [set() for _ in after]
-    while True:
-        before = copy.deepcopy(found)
-        for at, instruction in enumerate(instructions):
-            behind = {number for other in after[at] for number in found[other]}
-            found[at] = (behind - set(writes(instruction))) | set(reads(instruction))
-        if found == before:
-            return found
 
 
 def plain_reaching(instructions):

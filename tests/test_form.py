@@ -24,6 +24,8 @@ locals methodcaller os quit setattr super type vars sys""".split())
 BARRED_WORDS = set("""type typing typing_extensions enum Enum IntEnum StrEnum Flag IntFlag Generic Protocol ABC ABCMeta
 namedtuple NamedTuple TypedDict TYPE_CHECKING abstractmethod dataclass overload contextmanager""".split())
 
+HEAPS = {"heapify", "heappop", "heappush"}
+
 STATEMENTS = (ast.FunctionDef, ast.ClassDef, ast.Assign, ast.AugAssign, ast.If, ast.While, ast.For, ast.Return,
               ast.Break, ast.Continue, ast.Pass, ast.Raise, ast.Assert, ast.Delete, ast.Try, ast.Expr, ast.ImportFrom)
 
@@ -115,7 +117,9 @@ class FormTest(unittest.TestCase):
         for name, tree in self.trees.items():
             below[name] = []
             for node in ast.walk(tree):
-                if isinstance(node, ast.ImportFrom):
+                if isinstance(node, ast.ImportFrom) and node.module == "heapq":
+                    self.assertLessEqual({alias.name for alias in node.names}, HEAPS, name)
+                elif isinstance(node, ast.ImportFrom):
                     self.assertTrue(node.module.startswith("scribeself.") and node.level == 0, name)
                     other = node.module.split(".")[1] + ".py"
                     below[name].append(other)

@@ -47,6 +47,16 @@ FUNCTIONS = {
              "reachable(instructions)", "mentioned(instructions)", "live(instructions)",
              "live_path(instructions, at, number)", "reaching(instructions)",
              "reaching_path(instructions, at, number, index)", "drop_dead(instructions)"],
+    "scheduling": ["stretches(instructions)", "dependences(stretch)", "profile(machine, stretch)",
+                   "is_order(machine, stretch, order)", "best_order(machine, stretch)",
+                   "schedule(machine, instructions)", "check_schedule(machine, instructions, scheduled)"],
+    "colouring": ["interference(instructions)", "allocate(instructions, registers)",
+                  "check_allocation(instructions, allocated)"],
+    "codes": ["size(instruction)", "encode(instruction, address)", "decode(words, at)", "offsets(instructions)",
+              "assemble(instructions)", "disassemble(words)"],
+    "linking": ["addresses(parts)", "combine(parts)", "link(parts)", "missing(parts)", "pulled(parts, library)"],
+    "running": ["start(machine)", "advance(machine, image, state)", "execute(machine, image, fuel)",
+                "observe_image(machine, image, fuel)"],
 }
 
 METHODS = {
