@@ -20,6 +20,15 @@ def check(grammar, attributes):
         raise EquationError("an equation is missing")
 
 
+def attributes_fit(grammar, attributes):
+    """Whether the attributes fit the grammar."""
+    try:
+        check(grammar, attributes)
+    except EquationError:
+        return False
+    return True
+
+
 def declared_in(grammar, below, above):
     """A dict of the pairs of a name and an attribute of it; raise EquationError if a declaration is wrong."""
     names = lefts(grammar)

@@ -1,8 +1,8 @@
-"""Places for the registers of a list, such that registers that interfere have different ones."""
+"""Places for the registers of a list, such that registers that interfere have different ones, and code for them."""
 
 from heapq import heapify, heappop, heappush
 
-from scribeself.cores import FIRST_PLACE_SLOT
+from scribeself.cores import FIRST_PLACE_SLOT, READ_AT, WRITTEN_AT
 from scribeself.errors import SpillError
 from scribeself.flow import live
 from scribeself.machines import SLOTS, reads, writes
@@ -106,3 +106,42 @@ def places_for(instructions, registers):
     if found is None:
         raise SpillError("there are not enough places for the registers")
     return found
+
+
+def in_places(instructions, registers):
+    """The list that does with places for a number of registers what a source does; raise SpillError."""
+    places = places_for(instructions, registers)
+    found = []
+    for instruction in instructions:
+        found.extend(placed(instruction, places))
+    return found
+
+
+def placed(instruction, places):
+    """The instructions that do with places what an instruction does with registers."""
+    kind = instruction[0]
+    if kind == "mov":
+        return moved(places[instruction[1]], places[instruction[2]])
+    core = list(instruction)
+    helpers = {}
+    for at in READ_AT.get(kind, ()):
+        place = places[instruction[at]]
+        if is_slot(place):
+            helpers.setdefault(place, len(helpers))
+        core[at] = helpers.get(place, place)
+    behind = []
+    for at in WRITTEN_AT.get(kind, ()):
+        core[at] = places[instruction[at]]
+        if is_slot(core[at]):
+            behind.append(("st", 0, core[at]))
+            core[at] = 0
+    return [("ld", helpers[place], place) for place in helpers] + [tuple(core)] + behind
+
+
+def moved(goal, origin):
+    """The instructions that copy the value in a place to another one."""
+    if goal == origin:
+        return []
+    if is_slot(goal):
+        return [("ld", 0, origin), ("st", 0, goal)] if is_slot(origin) else [("st", origin, goal)]
+    return [("ld", goal, origin)] if is_slot(origin) else [("mov", goal, origin)]

@@ -19,9 +19,17 @@ class Reading:
 
     def tree(self, number):
         """The tree with a number; raise TreeError if there is none."""
+        return self.grown().tree(number)
+
+    def total(self):
+        """The number of the trees of the text."""
+        return self.grown().total()
+
+    def grown(self):
+        """The forest, which is made when it is first asked for."""
         if self.forest is None:
             self.forest = Forest(self.tables, self.sieve, self.text, self.columns)
-        return self.forest.tree(number)
+        return self.forest
 
 
 def read(grammar, filters, text):

@@ -57,12 +57,23 @@ FUNCTIONS = {
     "linking": ["addresses(parts)", "combine(parts)", "link(parts)", "missing(parts)", "pulled(parts, library)"],
     "running": ["start(machine)", "advance(machine, image, state)", "execute(machine, image, fuel)",
                 "observe_image(machine, image, fuel)"],
+    "descriptions": ["fits(description)", "read(text)", "read_checked(text)"],
+    "writing": ["write(description)"],
+    "converting": ["as_value(description)", "from_value(value)"],
+    "building": ["result_of(description, text)", "statement_of(description, result)",
+                 "code_of(description, statement)", "build(description, text)",
+                 "meaning_shows(description, text, fuel)", "image_shows(description, built, fuel)",
+                 "read_by(description, text)"],
+    "selfmade": ["self_text()", "self_description()"],
+    "desk": ["session(description, text, lines)"],
 }
 
 METHODS = {
     ("reuse", "Reading"): ["tree(self, number)"],
     ("records", "Record"): [],
     ("covers", "Coder"): ["__init__(self, patterns)", "expression(self, expression, told)"],
+    ("building", "Built"): [],
+    ("desk", "Desk"): ["__init__(self, description, text)", "command(self, line)"],
 }
 
 
