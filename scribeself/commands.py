@@ -27,7 +27,7 @@ def command_in(line):
     """The pair of the name of a command and the list of what its words mean, or None if the line is none."""
     scan = Scanner(line)
     try:
-        name = scan.name()
+        name = scan.read_name()
         words = [word_in(scan, kind) for kind in WORDS.get(name, ())]
     except DescriptionError:
         return None
@@ -38,17 +38,17 @@ def word_in(scan, kind):
     """What the next word of a line means."""
     scan.expect(" ")
     if kind == "number":
-        return scan.number()
+        return scan.read_number()
     if kind == "text":
-        return scan.quoted("'", "'")
-    return path_in(scan) if kind == "path" else scan.name()
+        return scan.read_quoted("'", "'")
+    return path_in(scan) if kind == "path" else scan.read_name()
 
 
 def path_in(scan):
     """The path that the next word means."""
     if scan.passes("-"):
         return ()
-    path = [scan.number()]
+    path = [scan.read_number()]
     while scan.passes("."):
-        path.append(scan.number())
+        path.append(scan.read_number())
     return tuple(path)

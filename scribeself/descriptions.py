@@ -40,7 +40,7 @@ def read(text):
     """The description of a text; raise DescriptionError with the first line that does not fit."""
     scan = Scanner(text)
     scan.expect("start ")
-    start = scan.name()
+    start = scan.read_name()
     scan.expect("\n")
     rules = read_lines(scan, {}, ["rule"])
     labels = {}
@@ -54,35 +54,35 @@ def read(text):
     patterns = read_lines(scan, labels, ["cover"])
     machine = read_machine(scan)
     if scan.at < len(text):
-        raise DescriptionError(scan.line())
+        raise DescriptionError(scan.line_number())
     return ("description", ("grammar", start, rules), filters, attributes, rewriting, patterns, machine)
 
 
 def read_lines(scan, labels, words):
     """What stands in the following lines that begin with one of some words; `labels` leads to indexes of rules."""
     found = []
-    word = scan.word(words)
+    word = scan.read_word(words)
     while word is not None:
         action = LINES[word]
         found.append(action(scan, labels))
         scan.expect("\n")
-        word = scan.word(words)
+        word = scan.read_word(words)
     return found
 
 
 def read_label(scan, labels):
     """The index of the rule with the label at the position."""
-    label = scan.name()
+    label = scan.read_name()
     if label not in labels:
-        raise DescriptionError(scan.line())
+        raise DescriptionError(scan.line_number())
     return labels[label]
 
 
 def read_rule(scan, _):
     """A rule, behind the word of its line."""
-    label = scan.name()
+    label = scan.read_name()
     scan.expect(" ")
-    left = scan.name()
+    left = scan.read_name()
     scan.expect(" :")
     return ("rule", left, label, read_all(scan, read_symbol))
 
@@ -100,13 +100,13 @@ def read_symbol(scan):
     if scan.sees("'"):
         return ("lit", read_literal(scan))
     if scan.sees("["):
-        return ("class", scan.quoted("[", "]"))
-    return ("run", scan.quoted("{", "}")) if scan.sees("{") else ("nt", scan.name())
+        return ("class", scan.read_quoted("[", "]"))
+    return ("run", scan.read_quoted("{", "}")) if scan.sees("{") else ("nt", scan.read_name())
 
 
 def read_literal(scan):
     """The text of a literal."""
-    return scan.quoted("'", "'")
+    return scan.read_quoted("'", "'")
 
 
 def read_first(scan, labels):
@@ -120,39 +120,39 @@ def read_under(scan, labels):
     """A filter "under", behind the word of its line."""
     upper = read_label(scan, labels)
     scan.expect(" ")
-    kid = scan.number()
+    kid = scan.read_number()
     scan.expect(" ")
     return ("under", upper, kid, read_label(scan, labels))
 
 
 def read_stop(scan, _):
     """A filter "stop", behind the word of its line."""
-    name = scan.name()
+    name = scan.read_name()
     scan.expect(" ")
-    return ("stop", name, scan.quoted("[", "]"))
+    return ("stop", name, scan.read_quoted("[", "]"))
 
 
 def read_bar(scan, _):
     """A filter "bar", behind the word of its line."""
-    name = scan.name()
+    name = scan.read_name()
     return ("bar", name, read_all(scan, read_literal))
 
 
 def read_declaration(scan, _):
     """A declaration, behind the word of its line."""
-    kind = scan.word(list(KINDS))
+    kind = scan.read_word(list(KINDS))
     if kind is None:
-        raise DescriptionError(scan.line())
-    name = scan.name()
+        raise DescriptionError(scan.line_number())
+    name = scan.read_name()
     scan.expect(" ")
-    return (name, scan.name(), kind)
+    return (name, scan.read_name(), kind)
 
 
 def read_equation(scan, labels):
     """An equation for an attribute of the node, behind the word of its line."""
     rule = read_label(scan, labels)
     scan.expect(" ")
-    attribute = scan.name()
+    attribute = scan.read_name()
     scan.expect(" ")
     return ("eq", rule, ("own", attribute), read_expression(scan))
 
@@ -161,9 +161,9 @@ def read_down(scan, labels):
     """An equation for an attribute of a kid, behind the word of its line."""
     rule = read_label(scan, labels)
     scan.expect(" ")
-    kid = scan.number()
+    kid = scan.read_number()
     scan.expect(" ")
-    attribute = scan.name()
+    attribute = scan.read_name()
     scan.expect(" ")
     return ("eq", rule, ("kid", kid, attribute), read_expression(scan))
 
@@ -177,7 +177,7 @@ def read_rewrite(scan, _):
 
 def read_cover(scan, _):
     """A pattern of covers, behind the word of its line."""
-    cost = scan.number()
+    cost = scan.read_number()
     scan.expect(" ")
     tree = read_pattern(scan)
     scan.expect(" :")
@@ -190,7 +190,7 @@ def read_machine(scan):
     numbers = []
     for _ in range(4):
         scan.expect(" ")
-        numbers.append(scan.number())
+        numbers.append(scan.read_number())
     scan.expect("\n")
     return ("machine", numbers[0], numbers[1], numbers[2], numbers[3])
 

@@ -18,26 +18,26 @@ def expression_head(scan):
     """The name of a function, or the sign of a choice."""
     if scan.passes(CHOICE):
         return CHOICE
-    return MAKE + scan.name() if scan.passes("!") else scan.name()
+    return MAKE + scan.read_name() if scan.passes("!") else scan.read_name()
 
 
 def expression_leaf(scan):
     """An expression without brackets."""
     if scan.passes("."):
-        return ("own", scan.name())
+        return ("own", scan.read_name())
     if scan.passes("$"):
-        return ("kidtext", scan.number()) if scan.sees_digit() else ("text",)
+        return ("kidtext", scan.read_number()) if scan.sees_digit() else ("text",)
     if not scan.sees_digit():
         return ("val", read_constant(scan))
-    number = scan.number()
-    return ("kid", number, scan.name()) if scan.passes(".") else ("val", number)
+    number = scan.read_number()
+    return ("kid", number, scan.read_name()) if scan.passes(".") else ("val", number)
 
 
 def read_constant(scan):
     """An integer or a string."""
     if scan.passes("-"):
-        return -scan.number()
-    return scan.number() if scan.sees_digit() else scan.quoted("\"", "\"")
+        return -scan.read_number()
+    return scan.read_number() if scan.sees_digit() else scan.read_quoted("\"", "\"")
 
 
 def expression_made(scan, head, parts):
@@ -45,7 +45,7 @@ def expression_made(scan, head, parts):
     if head != CHOICE:
         return ("call", head, parts)
     if len(parts) != 3:
-        raise DescriptionError(scan.line())
+        raise DescriptionError(scan.line_number())
     return ("if", parts[0], parts[1], parts[2])
 
 
@@ -57,18 +57,18 @@ def read_pattern(scan):
 def read_term(scan):
     """The pattern at the position of a scanner, which must be a term."""
     if not scan.sees("("):
-        raise DescriptionError(scan.line())
+        raise DescriptionError(scan.line_number())
     return read_pattern(scan)
 
 
 def term_name(scan):
     """The name of a term."""
-    return scan.name()
+    return scan.read_name()
 
 
 def pattern_leaf(scan):
     """A pattern without brackets."""
-    return ("hole", scan.name()) if scan.passes("?") else read_constant(scan)
+    return ("hole", scan.read_name()) if scan.passes("?") else read_constant(scan)
 
 
 def term_made(_, name, parts):

@@ -16,7 +16,7 @@ class Scanner:
         self.at = 0
         self.plain = plain_characters()
 
-    def line(self):
+    def line_number(self):
         """The number of the line with the position, from 1 on."""
         return self.text[:self.at].count("\n") + 1
 
@@ -38,7 +38,7 @@ class Scanner:
     def expect(self, word):
         """Go behind a word that must stand here."""
         if not self.passes(word):
-            raise DescriptionError(self.line())
+            raise DescriptionError(self.line_number())
 
     def stretch(self, chars):
         """The longest stretch of some characters, which may be empty."""
@@ -47,46 +47,46 @@ class Scanner:
             self.at += 1
         return self.text[first:self.at]
 
-    def name(self):
+    def read_name(self):
         """A name of any length."""
         if not self.sees_one(LETTERS):
-            raise DescriptionError(self.line())
+            raise DescriptionError(self.line_number())
         return self.stretch(LETTERS_AND_DIGITS)
 
     def sees_digit(self):
         """Whether a digit stands at the position."""
         return self.sees_one(DIGITS)
 
-    def number(self):
+    def read_number(self):
         """A number of 1 to 9 digits."""
         digits = self.stretch(DIGITS)
         if not 1 <= len(digits) <= MOST_DIGITS:
-            raise DescriptionError(self.line())
+            raise DescriptionError(self.line_number())
         return int(digits)
 
-    def quoted(self, opening, closing):
+    def read_quoted(self, opening, closing):
         """The text between two characters."""
         self.expect(opening)
         found = []
         while not self.passes(closing):
-            found.append(self.sign() if self.passes("\\") else self.plain_text())
+            found.append(self.read_sign() if self.passes("\\") else self.read_plain())
         return "".join(found)
 
-    def sign(self):
+    def read_sign(self):
         """The character for the sign behind a backslash."""
         for sign in SIGNS:
             if self.passes(sign):
                 return SIGNS[sign]
-        raise DescriptionError(self.line())
+        raise DescriptionError(self.line_number())
 
-    def plain_text(self):
+    def read_plain(self):
         """The characters that are written as they are, at least one."""
         found = self.stretch(self.plain)
         if found == "":
-            raise DescriptionError(self.line())
+            raise DescriptionError(self.line_number())
         return found
 
-    def word(self, words):
+    def read_word(self, words):
         """The one of some words that stands here with a space behind it, or None."""
         for word in words:
             if self.passes(word + " "):
