@@ -40,7 +40,7 @@ def filter_value(sieve, labels):
         return term(kind, [labels[sieve[1]], labels[sieve[2]]])
     if kind == "under":
         return term(kind, [labels[sieve[1]], sieve[2], labels[sieve[3]]])
-    return term(kind, [sieve[1], sieve[2] if kind == "stop" else list(sieve[2])])
+    return term(kind, [sieve[1], sieve[2]])
 
 
 def declaration_value(row):
@@ -130,7 +130,7 @@ def filter_told(sieve, labels):
         return (kind, index_of(parts[0], labels), index_of(parts[1], labels))
     if kind == "under":
         return (kind, index_of(parts[0], labels), parts[1], index_of(parts[2], labels))
-    return (kind, parts[0], parts[1] if kind == "stop" else list(parts[1]))
+    return (kind, parts[0], parts[1])
 
 
 def declaration_told(parts):

@@ -8,9 +8,9 @@ from scribeself.machines import places_of, target, writes
 
 FIRST_PLACE_SLOT = 16
 
-# Where the registers stand that each kind of instruction reads and writes.
-READ_AT = {"mov": (2,), "op": (3, 4), "st": (1,), "show": (1,), "jz": (1,)}
-WRITTEN_AT = {"li": (1,), "mov": (1,), "op": (2,), "ld": (1,)}
+# Where the registers stand that each kind of core reads and writes.
+READ_AT = {"op": (3, 4), "st": (1,), "show": (1,), "jz": (1,)}
+WRITTEN_AT = {"li": (1,), "op": (2,), "ld": (1,)}
 
 
 def copy_of(instruction):
@@ -89,10 +89,8 @@ def ways_to(cores):
 def agrees_after(core, other, number, place):
     """Whether a register agrees with a place after a core of the source and that of the target.
 
-    None if it does so exactly if it did before. If the path begins at a core that places a name, nothing agrees.
+    None if it does so exactly if it did before.
     """
-    if core[0] == "label" and isinstance(core[1], str):
-        return False
     goals = writes(core) + writes(other)
     if number not in goals[:1] and place not in goals[1:]:
         return None
@@ -109,7 +107,8 @@ def first_reads(source, goal):
 def witness_of(source, goal):
     """A witness that a target of the right shape is not a right allocation, or None.
 
-    What must agree ahead of a core is followed back, way by way, to a core after which it does not agree.
+    What must agree ahead of a core is followed back, way by way, to a core after which it does not agree. Such a
+    register is live on the way, so in a source the way does not lead over a core that places a name.
     """
     ways = ways_to(source.cores)
     queue = first_reads(source, goal)
@@ -133,10 +132,8 @@ def witness_of(source, goal):
 
 def path_from(first, state, behind):
     """The witness whose path begins with a core and goes on along what must agree."""
-    nodes = [first]
-    last = state
-    while state is not None:
-        nodes.append(state[0])
-        last = state
-        state = behind[state]
-    return ("path", nodes, last[1], last[2])
+    path = [state]
+    while behind[path[-1]] is not None:
+        path.append(behind[path[-1]])
+    _, number, place = path[-1]
+    return ("path", [first] + [at for at, _, _ in path], number, place)

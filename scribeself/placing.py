@@ -96,13 +96,10 @@ def places_for(instructions, registers):
     """
     around = neighbours(instructions)
     partners = partners_of(instructions)
-    few = few_ahead(around)
-    found = places_in(few, around, partners, list(range(registers)))
-    slots = list(range(HELPERS, registers)) + list(range(FIRST_PLACE_SLOT, SLOTS))
+    found = places_in(few_ahead(around), around, partners, list(range(registers)))
     if found is None:
-        found = places_in(most_used(instructions, around), around, partners, slots)
-    if found is None:
-        found = places_in(few, around, partners, slots)
+        free = list(range(HELPERS, registers)) + list(range(FIRST_PLACE_SLOT, SLOTS))
+        found = places_in(most_used(instructions, around), around, partners, free)
     if found is None:
         raise SpillError("there are not enough places for the registers")
     return found

@@ -115,10 +115,8 @@ def is_order(machine, stretch, order):
 def best_order(machine, stretch):
     """A good order of a stretch: an allowed one that no exchange of two neighbours improves."""
     times = Times(machine, stretch)
-    bound = {}
-    for i, j in dependences(stretch):
-        bound[(i, j)] = True
-        bound[(j, i)] = True
+    # Two neighbours that stand the other way round were exchanged, so neither depends on the other one.
+    bound = {pair: True for pair in dependences(stretch)}
     order = list(range(len(stretch)))
     better = improved(times, bound, order)
     while better is not None:
@@ -150,14 +148,13 @@ def schedule(machine, instructions):
 
 def check_schedule(machine, instructions, scheduled):
     """Whether a list is another one with each stretch in an allowed order."""
-    if len(instructions) != len(scheduled):
-        return False
     done = 0
     for first, end in stretches(instructions):
         order = order_between(instructions[first:end], scheduled[first:end])
         if scheduled[done:first] != instructions[done:first] or not is_order(machine, instructions[first:end], order):
             return False
         done = end
+    # Lists of different lengths differ in a stretch, or behind the last one.
     return scheduled[done:] == instructions[done:]
 
 

@@ -9,6 +9,7 @@ from allocating import Agreement, is_copy, plain_interference, plain_shape, some
 from lists import PlainPlay, plain_live, some_list
 from scribeself.colouring import allocate, check_allocation, interference
 from scribeself.errors import MachineError, SpillError
+from scribeself.flow import drop_dead
 from scribeself.machines import check_list, play, reads, writes
 
 EXAMPLE = [("li", 4, 2), ("li", 5, 3), ("op", "mul", 6, 4, 5), ("show", 6), ("show", 4)]
@@ -144,6 +145,40 @@ class AllocateTest(AllocationCase):
         self.assertEqual([part[0] for part in self.right(told, 2)], ["li", "show", "show"])
         told = [("li", 0, 1), ("mov", 1, 0), ("li", 0, 2), ("show", 0), ("show", 1)]
         self.assertEqual(play(self.right(told, 2), 99)[0], [2, 1])
+
+    def test_places_that_save_copies(self):
+        # Whichever of the two registers of a "mov" has more neighbours, and whichever of them got the first place.
+        for one, other in [(5, 6), (6, 5)]:
+            for told in [[("li", 5, 1), ("li", 6, 2), ("show", one), ("mov", 7, other), ("show", 7)],
+                         [("li", 7, 3), ("mov", other, 7), ("li", one, 1), ("show", one), ("show", other)],
+                         [("li", 7, 3), ("show", 7), ("li", one, 1), ("li", other, 2), ("show", one), ("mov", 7, other), ("show", 7)],
+                         [("li", one, 1), ("li", other, 2), ("li", 4, 3), ("show", 4), ("show", one), ("mov", 7, other), ("show", 7)]]:
+                found = self.right(told, 3)
+                self.assertEqual([part for part in found if part[0] == "mov"], [], told)
+        # No slot is taken only to save a copy, as long as a register is free.
+        told = many_live(12)[:12] + [("mov", 20, 11)] + [add(20, 20, 20)] * 9 + [("show", 20)] + many_live(12)[12:]
+        found = self.right(told, 4)
+        self.assertLess(len(found), 2 * len(told))
+
+    def test_as_few_registers_as_are_live(self):
+        """Where each register is written once, in a list without jumps, no slot is needed if few are live at a time."""
+        chance = random.Random(2521)
+        tried = 0
+        while tried < 40:
+            told = [("li", 0, 7)]
+            for k in range(1, 40):
+                first = max(0, k - chance.choice([1, 3, 9, 20]))
+                told.append(add(k, chance.randrange(first, k), chance.randrange(first, k)))
+            told = drop_dead(told + [("show", k) for k in range(40) if chance.random() < 0.15 or k == 39])
+            most = max(len(found) for found in plain_live(told))
+            if 2 <= most <= 8:
+                tried += 1
+                self.assertEqual([part for part in self.right(told, most) if is_copy(part)], [])
+
+    def test_what_is_used_often_is_in_registers(self):
+        told = many_live(30)[:30] + [add(20, 20, 21)] * 100 + many_live(30)[30:]
+        for registers in [4, 6]:
+            self.assertLess(len(self.right(told, registers)), len(told) + 100)
 
     def test_spilling(self):
         for many in [47, 48, 49, 50]:

@@ -185,7 +185,7 @@ class FaultsTest(unittest.TestCase):
             self.assertEqual(self.line(FULL[:k]), FULL[:k].count("\n") + 1)
 
     def test_unknown_letters_and_kinds(self):
-        self.wrong(["rules three a :\n", "Rule three a :\n", "filter one two\n", "firs one two\n", "first\n", "below every a out\n", "below once\n", "above a once in\n",
+        self.wrong(["rules three a :\n", "Rule three a :\n", "filter one two\n", "firs one two\n", "first\n", "below every a out\n", "below a out\n", "below once\n", "above b in\n", "above a once in\n",
                     "eq one Out 1\n", "eq one 1out 1\n", "x\n"])
         self.wrong(["start A\n", "start 1\n", "start a b\n", "start \n", "begin a\n"], "", "rule one a :\n" + END)
         self.wrong(["rule one a 'x'\n", "rule one a\n", "rule one :\n", "rule one a:\n", "rule one a : B\n", "rule one a : 1\n", "rule one a : (x)\n"], "start a\n")

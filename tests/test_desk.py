@@ -309,6 +309,9 @@ class DeskTest(unittest.TestCase):
                    ("edit 5 0 '+'", "edited 6 2"), ("computed", "error TreeError"), ("undo", "edited 5 1"), ("computed", "computed 20"),
                    ("edit 4 1 '#'", "edited 5 2"), ("computed", "error ValueFault"), ("edit 0 0 ''", "edited 5 6"), ("computed", "error ValueFault"), ("edit 4 1 '9'", "edited 5 2"),
                    ("computed", "computed 20"), ("result", "value 12"))
+        # A text and a node below are others, so the node above them is replaced, not the one below.
+        self.gives(told, "\"ab\"", ("computed", "computed 10"), ("edit 1 2 'cc'", "edited 4 4"), ("computed", "computed 9"), ("edit 2 1 'b'", "edited 4 3"), ("computed", "computed 8"),
+                   ("edit 3 0 'a'", "edited 5 3"), ("result", "value \"cba\""), ("computed", "computed 9"))
         # Values that come out as before stop what depends on them.
         told = read("start a\nrule two a : b b\nrule one b : {x} ';'\nbelow once a out\nbelow once b out\neq two out (add 0.out 1.out)\neq one out (less 2 (len $0))\nmachine 2 1 1 1\n")
         self.gives(told, "x;xxx;", ("computed", "computed 3"), ("edit 0 0 'x'", "edited 7 8"), ("result", "value 1"), ("computed", "computed 1"), ("edit 0 0 'x'", "edited 8 9"),
