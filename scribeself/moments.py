@@ -1,6 +1,6 @@
 """Moments: a text that was read, with its first tree and its values, which are kept up to date from edit to edit."""
 
-from scribeself.errors import CycleError, EquationError, TreeError, ValueFault
+from scribeself.errors import CycleError, EquationError, ValueFault
 from scribeself.records import again, recorded
 from scribeself.reuse import tree_numbers
 from scribeself.trees import nodes, subtree
@@ -19,11 +19,16 @@ class Moment:
         self.record = None
         self.many = 0
         self.fault = ""
-        try:
+        if reading.total() == 0:
+            self.fault = "TreeError"
+        else:
             self.tree = reading.tree(0)
             self.find_values(description, before)
-        except TreeError:
-            self.fault = "TreeError"
+
+    def find_values(self, description, before):
+        """Find the values of the tree, or the name of the error that they have."""
+        try:
+            self.settle(description, before)
         except EquationError:
             self.fault = "EquationError"
         except CycleError:
@@ -31,7 +36,7 @@ class Moment:
         except ValueFault:
             self.fault = "ValueFault"
 
-    def find_values(self, description, before):
+    def settle(self, description, before):
         """Take over the values of the moment before as far as possible, and compute the others."""
         if before is None or before.record is None:
             self.record = recorded(description[1], description[3], self.tree)
